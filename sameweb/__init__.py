@@ -1,0 +1,1 @@
+"""Sameweb: webs brought to one telling."""
