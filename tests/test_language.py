@@ -20,6 +20,9 @@ INTERFACE = {
     "errors.py": ["WebError", "BadWeb", "BadRow", "BadCells", "NoPoint", "NoTurn", "NoWeb"],
     "rows.py": ["is_row", "behind", "back"],
     "webs.py": ["Web", "renumbered", "is_same"],
+    "cells.py": ["first_cells", "parted"],
+    "ways.py": ["leading"],
+    "tellings.py": ["brought"],
 }
 
 METHODS = {("webs.py", "Web"): ["__init__", "colours", "ties", "beside"]}

@@ -1,11 +1,12 @@
 """Tests of sameweb.webs: points [2] and [3], and point [1] where it speaks of webs."""
 
 import unittest
-from itertools import combinations, permutations, product
+from itertools import combinations, permutations
 
 from sameweb.errors import BadRow, BadWeb, NoPoint
 from sameweb.rows import behind
 from sameweb.webs import Web, is_same, renumbered
+from tests.samples import all_webs
 from tests.strange import check_refused, strange_things
 
 MANY = list(range(10)) + [9, 0]
@@ -19,13 +20,7 @@ def told(web):
 
 def small_webs():
     """The webs of up to three points with colours 0 and 1."""
-    webs = []
-    for size in range(1, 4):
-        pairs = list(combinations(range(size), 2))
-        for colours in product((0, 1), repeat=size):
-            for kept in product((False, True), repeat=len(pairs)):
-                webs.append(Web(list(colours), [pair for pair, keep in zip(pairs, kept) if keep]))
-    return webs
+    return [web for size in range(1, 4) for web in all_webs(size, (0, 1))]
 
 
 class Webs(unittest.TestCase):
