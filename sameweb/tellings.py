@@ -7,10 +7,15 @@ from sameweb.webs import renumbered
 
 def brought(web):
     """The row and the web to which the web is brought."""
-    search = Search(web)
-    search.look_below(parted_among(neighbours(web), first_cells(web)), [])
-    row = search.row_to_least()
+    row = least_row(web, first_cells(web))
     return (row, renumbered(web, row))
+
+
+def least_row(web, cells):
+    """The row to the least web below the cells; to the points of the cells ahead it gives the lesser numbers."""
+    search = Search(web)
+    search.look_below(parted_among(neighbours(web), cells), [])
+    return search.row_to_least()
 
 
 class Search:

@@ -23,9 +23,15 @@ INTERFACE = {
     "cells.py": ["first_cells", "parted"],
     "ways.py": ["leading"],
     "tellings.py": ["brought"],
+    "turns.py": ["floors", "many_turns", "steps_of", "alike"],
+    "notes.py": ["shown", "read"],
+    "shelves.py": ["Shelf"],
 }
 
-METHODS = {("webs.py", "Web"): ["__init__", "colours", "ties", "beside"]}
+METHODS = {
+    ("webs.py", "Web"): ["__init__", "colours", "ties", "beside"],
+    ("shelves.py", "Shelf"): ["__init__", "put", "drop", "kind", "kinds", "way"],
+}
 
 
 def package_files():
